@@ -1,0 +1,1 @@
+"""Oddcents: friends who split bills, and the odd cents."""

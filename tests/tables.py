@@ -1,8 +1,13 @@
 """What the tests share: tables that are computed anew, one cent after another, and how errors are checked."""
 
 from itertools import combinations
+from random import Random
 
 from oddcents.evenings import Bill, Evening
+
+# After so many evenings the marks come back again and again, for all lengths that a round of up to 8 marks can have.
+LEAD = 8
+ROUND = 840
 
 
 def seat_sets(seat_count):
@@ -31,6 +36,39 @@ def paid_in_all(seat_count, bills, mark):
         cents, mark = paid(seat_count, amount, seats, mark)
         totals = [total + more for total, more in zip(totals, cents)]
     return tuple(totals), mark
+
+
+def one_by_one(seat_count, bills, mark, times):
+    """What each seat has paid after so many evenings, and the mark."""
+    totals = [0] * seat_count
+    for _ in range(times):
+        cents, mark = paid_in_all(seat_count, bills, mark)
+        totals = [total + more for total, more in zip(totals, cents)]
+    return tuple(totals), mark
+
+
+def cells(seat_count, bills):
+    """What an evening does from each mark on, for tests that repeat it often."""
+    return [paid_in_all(seat_count, bills, mark) for mark in range(seat_count)]
+
+
+def walked(table, mark, times):
+    totals = [0] * len(table)
+    for _ in range(times):
+        cents, mark = table[mark]
+        totals = [total + more for total, more in zip(totals, cents)]
+    return totals, mark
+
+
+def very_often(table, mark, times):
+    """What each seat has paid after more than LEAD evenings, and the mark, if these are the cells of the evening."""
+    lead, start = walked(table, mark, LEAD)
+    full, same = walked(table, start, ROUND)
+    if same != start:
+        raise AssertionError("the marks do not come back")
+    rounds, rest = divmod(times - LEAD, ROUND)
+    end, last = walked(table, start, rest)
+    return tuple(a + b * rounds + c for a, b, c in zip(lead, full, end)), last
 
 
 def made(seat_count, bills):
@@ -67,3 +105,16 @@ def raised(kind, action):
             raise AssertionError(f"{error!r} is not exactly {kind.__name__}") from error
         return error
     raise AssertionError(f"{kind.__name__} was not raised")
+
+
+def random_bills(chance, seat_count, number, limit=40):
+    """A number of bills (amount, seats) for a table; chance is a random.Random that was given its seed."""
+    sets = seat_sets(seat_count)
+    return [(chance.randrange(limit), chance.choice(sets)) for _ in range(number)]
+
+
+def many_evenings(seed, each, most):
+    """For each number of seats some random evenings of at most so many bills, as (number of seats, bills)."""
+    chance = Random(seed)
+    return [(seat_count, random_bills(chance, seat_count, chance.randint(0, most)))
+            for seat_count in range(2, 9) for _ in range(each)]

@@ -6,38 +6,13 @@ from oddcents.errors import InvalidMark, InvalidNumber
 from oddcents.evenings import Bill, Evening, long_run, repeated
 from oddcents.shares import Shares
 
-from tables import made, paid_in_all, raised, sample_evenings
+from tables import LEAD, ROUND, cells, made, one_by_one, raised, sample_evenings, very_often, walked
 
 MOST = 10 ** 18
-# After so many evenings the marks come back again and again, for all lengths that a round of up to 8 marks can have.
-LEAD = 8
-ROUND = 840
 
 
 def example():
     return Evening(3, Bill(100, 0, 1, 2), Bill(11, 0, 2))
-
-
-def one_by_one(seat_count, bills, mark, times):
-    """What each seat has paid after so many evenings, and the mark."""
-    totals = [0] * seat_count
-    for _ in range(times):
-        cents, mark = paid_in_all(seat_count, bills, mark)
-        totals = [total + more for total, more in zip(totals, cents)]
-    return tuple(totals), mark
-
-
-def cells(seat_count, bills):
-    """What an evening does from each mark on, for tests that repeat it often."""
-    return [paid_in_all(seat_count, bills, mark) for mark in range(seat_count)]
-
-
-def walked(table, mark, times):
-    totals = [0] * len(table)
-    for _ in range(times):
-        cents, mark = table[mark]
-        totals = [total + more for total, more in zip(totals, cents)]
-    return totals, mark
 
 
 class RepeatedTests(unittest.TestCase):
@@ -77,15 +52,9 @@ class RepeatedTests(unittest.TestCase):
             table = cells(seat_count, bills)
             for mark in range(seat_count):
                 for times in (MOST, MOST - 1, 123456789012345678):
-                    lead, start = walked(table, mark, LEAD)
-                    full, same = walked(table, start, ROUND)
-                    self.assertEqual(same, start)
-                    rounds, rest = divmod(times - LEAD, ROUND)
-                    end, last = walked(table, start, rest)
-                    cents = tuple(a + b * rounds + c for a, b, c in zip(lead, full, end))
                     with self.subTest(seat_count=seat_count, bills=bills, mark=mark, times=times):
                         shares, afterwards = repeated(evening, mark, times)
-                        self.assertEqual((shares.cents, afterwards), (cents, last))
+                        self.assertEqual((shares.cents, afterwards), very_often(table, mark, times))
 
     def test_numbers_that_are_too_small_or_too_great(self):
         for evening in (example(), Evening(3)):

@@ -1,6 +1,6 @@
 """How debts are settled: balances after payments, and as few payments as possible."""
 
-from oddcents.checks import check_seat, is_between
+from oddcents.checks import check_seat, is_between, seats_of
 from oddcents.errors import InvalidNumber, NotBalanced
 from oddcents.shares import Shares
 
@@ -37,16 +37,11 @@ def check_balance(balance):
 
 
 def sums_of_sets(due):
-    """Return what the seats of each set are to get; the index of a set has the bit s for each of its seats s."""
+    """Return what the seats of each set are to get; the index of a set is its number, as in seats_of."""
     sums = [0]
     for cents in due:
         sums = sums + [others + cents for others in sums]
     return sums
-
-
-def seats_of(index):
-    """Return the seats of the set with an index, in ascending order."""
-    return [seat for seat in range(MAX_SETTLED_SEATS) if (index & (1 << seat)) != 0]
 
 
 def number_of_groups(parting):

@@ -48,9 +48,11 @@ class ExampleTests(unittest.TestCase):
         for name in ("Shares", "Bill", "Evening", "Evening.together", "repeated", "long_run", "widest_gap", "best_mark",
                      "fairest_order", "first_difference", "known_after", "reset", "telling", "MarkObserver", "payments",
                      "fewest_payments", "balance_after", "Ledger", "ledger.lay", "ledger.hand", "ledger.move",
-                     "ledger.settle", "ledger.undo", "ledger.redo", "ledger.apply_all", "Ledger.replay"):
+                     "ledger.settle", "ledger.undo", "ledger.redo", "ledger.apply_all", "Ledger.replay", "Fixed",
+                     "Turns", "Until", "group.seats_for", "evening_of", "format_evening", "parse_evening", "receipt",
+                     "parse_receipt", "encode_evening", "decode_evening"):
             self.assertIn(f"{name}(", text)
-        self.assertEqual(len(examples()), 28)
+        self.assertEqual(len(examples()), 40)
 
 
 if __name__ == "__main__":
